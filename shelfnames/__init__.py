@@ -1,0 +1,1 @@
+"""Names in the order that a house's rules give."""
