@@ -1,4 +1,4 @@
-"""What of LANGUAGE.md can be seen in the package's files: most of L1 to L28, not all."""
+"""What a walk over the files shows of LANGUAGE.md: parts of L1, L2, L4, L6 to L8, L10, L12, L14, L16 to L18, L25."""
 
 import ast
 import builtins
