@@ -7,6 +7,11 @@ ADD = 1
 DROP = 2
 COUNT = 3
 CUT = 4
+COMPARE = 5
+FIND = 6
+KEY = 7
+LOW = 8
+HIGH = 9
 
 
 class UnknownCall(ValueError):
@@ -34,22 +39,55 @@ class Reader:
         return self.calls[start:self.place]
 
 
+def answer_add(table, reader):
+    seq = reader.take_row()
+    w = reader.take_row()
+    return [table.add(seq, w)]
+
+
+def answer_cut(table, reader):
+    at = reader.take_number()
+    s = reader.take_row()
+    return [table.cut(s, at)]
+
+
+def answer_compare(table, reader):
+    strength = reader.take_number()
+    a = reader.take_row()
+    b = reader.take_row()
+    return [table.compare(a, b, strength)]
+
+
+def answer_find(table, reader):
+    strength = reader.take_number()
+    start = reader.take_number()
+    s = reader.take_row()
+    p = reader.take_row()
+    return table.find(s, p, strength, start)
+
+
 def answer(table, reader):
     call = reader.take_number()
     if call == BEGIN:
         return [table.begin(reader.take_number())]
     if call == ADD:
-        seq = reader.take_row()
-        w = reader.take_row()
-        return [table.add(seq, w)]
+        return answer_add(table, reader)
     if call == DROP:
         return [table.drop(reader.take_row())]
     if call == COUNT:
         return [table.count()]
     if call == CUT:
-        at = reader.take_number()
-        s = reader.take_row()
-        return [table.cut(s, at)]
+        return answer_cut(table, reader)
+    if call == COMPARE:
+        return answer_compare(table, reader)
+    if call == FIND:
+        return answer_find(table, reader)
+    if call == KEY:
+        return table.key(reader.take_row())
+    if call == LOW:
+        return table.low(reader.take_row())
+    if call == HIGH:
+        return table.high(reader.take_row())
     raise UnknownCall(f"the call {call} is not known")
 
 

@@ -1,4 +1,6 @@
-"""A table of weights: its entries, its options, and how a text is cut by it."""
+"""A table of weights: its entries, its options, and how texts are cut, compared, found and made into keys by it."""
+
+from shelfnames.levels import are_between, high_of, key_of, levels_as_they_stand, levels_by_options, low_of, order
 
 GREATEST_OPTIONS = 1
 LONGEST_SEQUENCE = 8
@@ -7,6 +9,8 @@ MOST_WEIGHTS = 12
 GREATEST_WEIGHT = 65535
 MOST_ENTRIES = 64
 LONGEST_TEXT = 64
+GREATEST_STRENGTH = 3
+UNLISTED = 65536
 
 UNFIT = -1
 TOO_LONG = -2
@@ -26,6 +30,18 @@ def is_sequence(seq):
 
 def in_threes(w):
     return [(w[k], w[k + 1], w[k + 2]) for k in range(0, len(w), WEIGHTS_EACH)]
+
+
+def is_strength(strength):
+    return 1 <= strength <= GREATEST_STRENGTH
+
+
+def is_too_long(text):
+    return len(text) > LONGEST_TEXT
+
+
+def with_length(numbers):
+    return [len(numbers)] + numbers
 
 
 class Table:
@@ -65,9 +81,40 @@ class Table:
     def cut(self, s, at):
         if at >= len(s):
             return UNFIT
-        if len(s) > LONGEST_TEXT:
+        if is_too_long(s):
             return TOO_LONG
         return self.place_behind(s, at)
+
+    def compare(self, a, b, strength):
+        if not is_strength(strength):
+            return UNFIT
+        if is_too_long(a) or is_too_long(b):
+            return TOO_LONG
+        return order(self.levels_of(a)[:strength], self.levels_of(b)[:strength])
+
+    def find(self, s, p, strength, start):
+        if not is_strength(strength):
+            return [UNFIT]
+        if is_too_long(s) or is_too_long(p):
+            return [TOO_LONG]
+        # Two levels are the same whichever way both are read, so options count for nothing here.
+        wanted = levels_as_they_stand(self.weights_of(p))[:strength]
+        return self.first_match(s, wanted, start)
+
+    def key(self, s):
+        if is_too_long(s):
+            return [TOO_LONG]
+        return with_length(key_of(self.levels_of(s)))
+
+    def low(self, s):
+        if is_too_long(s):
+            return [TOO_LONG]
+        return with_length(low_of(self.levels_of(s)))
+
+    def high(self, s):
+        if is_too_long(s):
+            return [TOO_LONG]
+        return with_length(high_of(self.levels_of(s)))
 
     def place_behind(self, s, at):
         # A slice ends with the text, so a length beyond it would take a shorter entry for a longer one.
@@ -76,3 +123,43 @@ class Table:
             if tuple(s[at:at + length]) in self.entries:
                 return at + length
         return at + 1
+
+    def weights_at(self, s, at):
+        sequence = tuple(s[at:self.place_behind(s, at)])
+        if sequence in self.entries:
+            return self.entries[sequence]
+        return [(UNLISTED + s[at], 1, 1)]
+
+    def joints_of(self, s):
+        joints = [0]
+        while joints[-1] < len(s):
+            joints.append(self.place_behind(s, joints[-1]))
+        return joints
+
+    def weights_of(self, s):
+        threes = []
+        # Nothing stands at the last joint, the text's end.
+        for joint in self.joints_of(s)[:-1]:
+            threes.extend(self.weights_at(s, joint))
+        return threes
+
+    def levels_of(self, s):
+        return levels_by_options(self.weights_of(s), self.options)
+
+    def levels_before(self, s, joints):
+        threes = []
+        before = [levels_as_they_stand(threes)]
+        for joint in joints[:-1]:
+            threes.extend(self.weights_at(s, joint))
+            before.append(levels_as_they_stand(threes))
+        return before
+
+    def first_match(self, s, wanted, start):
+        joints = self.joints_of(s)
+        before = self.levels_before(s, joints)
+        allowed = [k for k in range(len(joints)) if joints[k] >= start]
+        for last in allowed:
+            for first in range(last, allowed[0] - 1, -1):
+                if are_between(before[first], before[last], wanted):
+                    return [1, joints[first], joints[last]]
+        return [0]

@@ -1,4 +1,4 @@
-"""What a walk over the files shows of LANGUAGE.md: parts of L1, L2, L4, L6 to L8, L10, L12, L14, L16 to L18, L25."""
+"""What a walk over the files shows of LANGUAGE.md: parts of L1 to L8, L10, L12, L14 to L18, L20, L22, L23, L25, L27."""
 
 import ast
 import builtins
@@ -40,6 +40,14 @@ METHODS = set("""
     setdefault split splitlines startswith strip update upper values zfill bit_length
 """.split())
 
+WALKED = {"zip", "enumerate", "reversed", "range", "items", "keys", "values"}
+WALKERS = {"list", "tuple", "dict", "sorted", "sum", "any", "all", "enumerate", "zip", "min", "max", "join"}
+
+KEYWORDS = {
+    "sorted": {"key", "reverse"}, "min": {"key", "default"}, "max": {"key", "default"},
+    "sum": {"start"}, "enumerate": {"start"}, "zip": {"strict"},
+}
+
 UNDERSCORED = {"__init__", "__eq__", "__repr__", "__str__", "__len__"}
 
 
@@ -63,6 +71,25 @@ def bound_names(node):
     if isinstance(node, ast.Attribute):
         return [node.attr]
     return [node.id]
+
+
+def called(node):
+    """The name that a call is by, or None."""
+    if isinstance(node, ast.Call):
+        return getattr(node.func, "id", getattr(node.func, "attr", None))
+    return None
+
+
+def imported(tree):
+    return [(node.module, alias.name) for node in tree.body if isinstance(node, ast.ImportFrom) for alias in node.names]
+
+
+def is_plain(node):
+    if isinstance(node, ast.UnaryOp):
+        return isinstance(node.op, ast.USub) and is_plain(node.operand)
+    if isinstance(node, (ast.List, ast.Tuple)):
+        return all(is_plain(part) for part in node.elts)
+    return isinstance(node, ast.Constant)
 
 
 class LanguageTest(unittest.TestCase):
@@ -129,6 +156,80 @@ class LanguageTest(unittest.TestCase):
         for name, node in nodes(ast.Call):
             if isinstance(node.func, ast.Attribute):
                 self.assertIn(node.func.attr, METHODS | own, (name, node.lineno))
+
+    def test_the_top_of_a_module_and_of_a_class(self):
+        for name, tree in trees():
+            bound = []
+            for node in tree.body:
+                kinds = (ast.ImportFrom, ast.FunctionDef, ast.ClassDef, ast.Assign)
+                self.assertTrue(isinstance(node, kinds) or node is tree.body[0], (name, node.lineno))
+                if isinstance(node, ast.Assign):
+                    self.assertTrue(is_plain(node.value), (name, node.lineno))
+                    bound.append(node.targets[0].id)
+                elif isinstance(node, (ast.FunctionDef, ast.ClassDef)):
+                    bound.append(node.name)
+            bound.extend(word for module, word in imported(tree))
+            self.assertEqual(sorted(bound), sorted(set(bound)), name)
+        for name, node in nodes(ast.ClassDef):
+            self.assertLessEqual(len(node.bases), 1, (name, node.name))
+            for part in node.body:
+                self.assertIsInstance(part, (ast.FunctionDef, ast.Pass), (name, part.lineno))
+            methods = [part.name for part in node.body if isinstance(part, ast.FunctionDef)]
+            self.assertEqual(sorted(methods), sorted(set(methods)), (name, node.name))
+
+    def test_locals_are_not_called_like_classes_or_imports(self):
+        for name, tree in trees():
+            taken = {word for module, word in imported(tree)}
+            taken |= {node.name for node in tree.body if isinstance(node, ast.ClassDef)}
+            for node in ast.walk(tree):
+                if isinstance(node, ast.arg) or isinstance(node, ast.Name) and isinstance(node.ctx, ast.Store):
+                    self.assertNotIn(bound_names(node)[0], taken, (name, node.lineno))
+
+    def test_names_are_drawn_from_the_file_that_defines_them_and_never_in_a_ring(self):
+        tree_of = {"shelfnames." + name.removesuffix(".py"): tree for name, tree in trees()}
+        for module, tree in tree_of.items():
+            for drawn, word in imported(tree):
+                defined = [getattr(node, "name", None) for node in tree_of[drawn].body]
+                defined += [node.targets[0].id for node in tree_of[drawn].body if isinstance(node, ast.Assign)]
+                self.assertIn(word, defined, (module, drawn))
+            reached = [drawn for drawn, word in imported(tree)]
+            for drawn in reached:
+                reached.extend(further for further, word in imported(tree_of[drawn]) if further not in reached)
+            self.assertNotIn(module, reached)
+
+    def test_is_stands_beside_none_true_and_false_alone(self):
+        for name, node in nodes(ast.Compare):
+            if any(isinstance(sign, (ast.Is, ast.IsNot)) for sign in node.ops):
+                values = [getattr(side, "value", 0) for side in node.comparators]
+                self.assertTrue(all(value is None or isinstance(value, bool) for value in values), (name, node.lineno))
+
+    def test_keywords(self):
+        own = {node.name for name, node in nodes(ast.FunctionDef, ast.ClassDef)}
+        for name, node in nodes(ast.Call):
+            words = {keyword.arg for keyword in node.keywords}
+            if called(node) not in own:
+                self.assertLessEqual(words, KEYWORDS.get(called(node), set()), (name, node.lineno))
+
+    def test_walked_at_once(self):
+        walked_here = set()
+        for name, node in nodes(ast.For, ast.comprehension, ast.Call):
+            if isinstance(node, ast.Call):
+                walked = node.args if called(node) in WALKERS else []
+            else:
+                walked = [node.iter]
+            walked_here.update((name, part.lineno, part.col_offset) for part in walked)
+        for name, node in nodes(ast.Call):
+            if called(node) in WALKED:
+                self.assertIn((name, node.lineno, node.col_offset), walked_here)
+
+    def test_numbers_and_texts(self):
+        for name, node in nodes(ast.Constant):
+            if isinstance(node.value, str):
+                self.assertNotIn("%", node.value, (name, node.lineno))
+        for name, node in nodes(ast.BinOp):
+            if isinstance(node.op, ast.Pow):
+                self.assertIn(getattr(node.right, "value", -1), range(65), (name, node.lineno))
+        self.assertNotIn("chr", [called(node) for name, node in nodes(ast.Call)])
 
 
 if __name__ == "__main__":
